@@ -1,0 +1,1 @@
+"""Bounds with certificates: small linear programs solved exactly, with proofs of the answers."""
