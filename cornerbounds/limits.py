@@ -7,6 +7,7 @@ GREATEST_THINK = 10000
 MOST_CUSTOMERS = 40
 MOST_QUEUES = 8
 GREATEST_DEMAND = 1000
+GREATEST_MOST = 12
 
 
 def is_variables(number):
@@ -43,3 +44,8 @@ def is_cycle(think, customers, demands):
     if not 0 <= think <= GREATEST_THINK:
         return False
     return 1 <= customers <= MOST_CUSTOMERS and are_demands(demands)
+
+
+def is_most(number):
+    """Whether a curve may go up to so many customers."""
+    return 0 <= number <= GREATEST_MOST

@@ -1,11 +1,13 @@
 """The operations: each takes the instance, the whole numbers and the rows of a call, and gives its answer."""
 
-from cornerbounds.instances import Cycle
-from cornerbounds.limits import MOST_CONSTRAINTS, are_coefficients, is_coefficient, is_cycle, is_variables, is_vector
-from cornerbounds.points import best_of, first_of, fractions_of, point_of, value_of
+from cornerbounds.limits import MOST_CONSTRAINTS, are_coefficients, is_coefficient, is_cycle, is_most
+from cornerbounds.limits import is_variables, is_vector
+from cornerbounds.networks import Cycle, asymptotic_bounds, balanced_bounds, exact_throughputs, saturation_of
+from cornerbounds.points import best_of, dot, first_of, fractions_of, lowest, point_of, value_of
 from cornerbounds.programs import OPTIMAL, UNBOUNDED, Program, corners_of, dual_of, improving_rays_of
-from cornerbounds.programs import keeps_to, status_of
-from cornerbounds.refusals import BAD_ARGUMENT, CONSTRAINTS_FULL, NOT_THERE, NO_CONSTRAINT, NO_INSTANCE, refusal
+from cornerbounds.programs import is_improving, keeps_to, proven_bound_of, status_of
+from cornerbounds.refusals import BAD_ARGUMENT, CONSTRAINTS_FULL, NOT_THERE, NO_CONSTRAINT, NO_CYCLE, NO_INSTANCE
+from cornerbounds.refusals import refusal
 
 CREATE = 0
 
@@ -124,6 +126,118 @@ def is_feasible(instance, numbers, rows):
     return [1 if keeps_to(program, point_of(nums, dens)) else 0]
 
 
+def slack(instance, numbers, rows):
+    """Answers how much room the vector leaves below the bound of a constraint."""
+    program = instance.program
+    place = numbers[0]
+    if place >= len(program.rows):
+        return refusal(NO_CONSTRAINT)
+    nums = rows[0]
+    dens = rows[1]
+    if not is_vector(nums, dens, program.width):
+        return refusal(BAD_ARGUMENT)
+    point = point_of(nums, dens)
+    return [0] + lowest(-dot(program.rows[place], point), point[-1])
+
+
+def check_bound(instance, numbers, rows):
+    """Answers the proven bound of the vector."""
+    program = instance.program
+    dual = dual_of(program)
+    nums = rows[0]
+    dens = rows[1]
+    if not is_vector(nums, dens, dual.width):
+        return refusal(BAD_ARGUMENT)
+    point = point_of(nums, dens)
+    if not keeps_to(dual, point):
+        return refusal(NOT_THERE)
+    return [0] + proven_bound_of(program, point)
+
+
+def check_refutation(instance, numbers, rows):
+    """Answers 1 if the vector is a refutation, otherwise 0."""
+    dual = dual_of(instance.program)
+    nums = rows[0]
+    dens = rows[1]
+    if not is_vector(nums, dens, dual.width):
+        return refusal(BAD_ARGUMENT)
+    # The dual program's objective is minus the bounds, so its improving directions are the refutations.
+    return [1 if is_improving(dual, point_of(nums, dens)) else 0]
+
+
+def check_ray(instance, numbers, rows):
+    """Answers 1 if the vector is an improving direction, otherwise 0."""
+    program = instance.program
+    nums = rows[0]
+    dens = rows[1]
+    if not is_vector(nums, dens, program.width):
+        return refusal(BAD_ARGUMENT)
+    return [1 if is_improving(program, point_of(nums, dens)) else 0]
+
+
+def check_optimum(instance, numbers, rows):
+    """Answers 1 if both vectors are feasible, each in its program, and have the same value; otherwise 0."""
+    program = instance.program
+    dual = dual_of(program)
+    if not is_vector(rows[0], rows[1], program.width) or not is_vector(rows[2], rows[3], dual.width):
+        return refusal(BAD_ARGUMENT)
+    point = point_of(rows[0], rows[1])
+    weights = point_of(rows[2], rows[3])
+    if not keeps_to(program, point) or not keeps_to(dual, weights):
+        return [0]
+    return [1 if value_of(program.goal, point) == proven_bound_of(program, weights) else 0]
+
+
+def asymptotic(instance, numbers, rows):
+    """Answers the asymptotic bounds."""
+    if instance.cycle is None:
+        return refusal(NO_CYCLE)
+    return [0] + asymptotic_bounds(instance.cycle)
+
+
+def balanced(instance, numbers, rows):
+    """Answers the balanced bounds."""
+    if instance.cycle is None:
+        return refusal(NO_CYCLE)
+    return [0] + balanced_bounds(instance.cycle)
+
+
+def exact(instance, numbers, rows):
+    """Answers the exact throughput."""
+    cycle = instance.cycle
+    if cycle is None:
+        return refusal(NO_CYCLE)
+    return [0] + exact_throughputs(cycle, cycle.customers)[-1]
+
+
+def saturation(instance, numbers, rows):
+    """Answers the saturation."""
+    if instance.cycle is None:
+        return refusal(NO_CYCLE)
+    return [0] + saturation_of(instance.cycle)
+
+
+def exact_curve(instance, numbers, rows):
+    """Answers how many fractions there are, and the exact throughput for each number of customers."""
+    if instance.cycle is None:
+        return refusal(NO_CYCLE)
+    most = numbers[0]
+    if not is_most(most):
+        return refusal(BAD_ARGUMENT)
+    curve = exact_throughputs(instance.cycle, most)
+    answer = [len(curve)]
+    for fraction in curve:
+        answer.extend(fraction)
+    return answer
+
+
+def summary(instance, numbers, rows):
+    """Answers how many variables, constraints and queues there are."""
+    program = instance.program
+    queues = 0 if instance.cycle is None else len(instance.cycle.demands)
+    return [program.width, len(program.rows), queues]
+
+
 OPERATIONS = {
     0: create,
     1: add_constraint,
@@ -137,6 +251,17 @@ OPERATIONS = {
     9: ray,
     10: corners,
     11: is_feasible,
+    12: slack,
+    13: check_bound,
+    14: check_refutation,
+    15: check_ray,
+    16: check_optimum,
+    17: asymptotic,
+    18: balanced,
+    19: exact,
+    20: saturation,
+    21: exact_curve,
+    22: summary,
 }
 
 
@@ -144,6 +269,4 @@ def answer_of(instance, number, numbers, rows):
     """The answer to the call with this number."""
     if number != CREATE and instance.program is None:
         return refusal(NO_INSTANCE)
-    if number not in OPERATIONS:
-        raise NotImplementedError(f"call {number} is not built yet")
     return OPERATIONS[number](instance, numbers, rows)

@@ -1,6 +1,6 @@
 """Linear programs: their corners, their rays, their status and the programs that are made from them."""
 
-from cornerbounds.points import dot
+from cornerbounds.points import dot, value_of
 from cornerbounds.systems import System
 
 OPTIMAL = 0
@@ -64,21 +64,35 @@ def corners_of(program):
     return corners_from(program, System(1, [], []))
 
 
+def cone_of(program):
+    """The program with each bound replaced by 0: its feasible vectors are directions."""
+    rows = [row[:-1] + [0] for row in program.rows]
+    return Program(program.width, rows, program.goal)
+
+
 def rays_of(program):
     """The different rays of the program."""
-    rows = [row[:-1] + [0] for row in program.rows]
-    cone = Program(program.width, rows, program.goal)
     # "At most 1 and at least 1" makes this equation hold for each feasible vector, so each corner has a
     # choice of conditions with it: the other choices needn't be tried.
     one = System(1, [], []).with_equation([1] * program.width + [-1])
     if one is None:
         return []
-    return corners_from(cone, one)
+    return corners_from(cone_of(program), one)
+
+
+def gains(program, point):
+    """Whether the point has a positive value."""
+    return dot(program.goal, point[:-1]) > 0
 
 
 def improving_rays_of(program):
     """The different rays of the program that have a positive value."""
-    return [ray for ray in rays_of(program) if dot(program.goal, ray[:-1]) > 0]
+    return [ray for ray in rays_of(program) if gains(program, ray)]
+
+
+def is_improving(program, point):
+    """Whether the point is an improving direction of the program."""
+    return keeps_to(cone_of(program), point) and gains(program, point)
 
 
 def dual_of(program):
@@ -88,6 +102,11 @@ def dual_of(program):
         row = [-constraint[place] for constraint in program.rows]
         rows.append(row + [program.goal[place]])
     return Program(len(program.rows), rows, [constraint[-1] for constraint in program.rows])
+
+
+def proven_bound_of(program, point):
+    """The proven bound of a point that is feasible in the dual program, in lowest terms."""
+    return value_of([-row[-1] for row in program.rows], point)
 
 
 def status_of(program):

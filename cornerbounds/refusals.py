@@ -2,6 +2,7 @@
 
 # An error is answered as its number below 0; here the numbers stand without their sign.
 NO_CONSTRAINT = 2
+NO_CYCLE = 6
 NO_INSTANCE = 11
 BAD_ARGUMENT = 22
 CONSTRAINTS_FULL = 28

@@ -1,4 +1,4 @@
-"""Helps the tests to write calls by name and to read what is answered."""
+"""Helps the tests: to write calls by name, to read what is answered, and to make fixed inputs that look mixed."""
 
 from fractions import Fraction
 
@@ -78,3 +78,46 @@ def fractions(numbers):
             raise AssertionError(f"{num}, {den} isn't in lowest terms")
         found.append(fraction)
     return found
+
+
+def written(vector):
+    """The fractions as they are answered, one behind another."""
+    return [number for fraction in vector for number in (fraction.numerator, fraction.denominator)]
+
+
+def parted(vector):
+    """The fractions as they are handed in: their numerators and their denominators."""
+    return [fraction.numerator for fraction in vector], [fraction.denominator for fraction in vector]
+
+
+def times(row, vector):
+    return sum((a * b for a, b in zip(row, vector)), Fraction(0))
+
+
+def feasible(constraints, vector):
+    return all(x >= 0 for x in vector) and all(times(row, vector) <= bound for row, bound in constraints)
+
+
+class Numbers:
+    """A fixed row of numbers that looks mixed, the same on each run."""
+
+    def __init__(self, seed):
+        self.state = seed
+
+    def between(self, least, most):
+        self.state = (self.state * 6364136223846793005 + 1442695040888963407) % 2 ** 64
+        return least + (self.state >> 33) % (most - least + 1)
+
+    def one_of(self, things):
+        return things[self.between(0, len(things) - 1)]
+
+
+def mixed_programs(count, seed, sizes, size, bounds):
+    """Programs with coefficients up to size and bounds from the pair."""
+    numbers = Numbers(seed)
+    made = []
+    for turn in range(count):
+        width, most = sizes[turn % len(sizes)]
+        rows = [([numbers.between(-size, size) for _ in range(width)], numbers.between(*bounds)) for _ in range(most)]
+        made.append((width, rows, [numbers.between(-size, size) for _ in range(width)]))
+    return made

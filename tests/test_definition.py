@@ -4,7 +4,7 @@ import itertools
 import unittest
 from fractions import Fraction
 
-from calling import ask_of, fractions, program
+from calling import ask_of, feasible, fractions, mixed_programs, program, times, written
 
 
 def only_solution(equations, width):
@@ -22,14 +22,6 @@ def only_solution(equations, width):
             if k != column and factor != 0:
                 rows[k] = [a - factor * b for a, b in zip(rows[k], rows[column])]
     return tuple(row[-1] for row in rows)
-
-
-def times(row, vector):
-    return sum((a * b for a, b in zip(row, vector)), Fraction(0))
-
-
-def feasible(constraints, vector):
-    return all(x >= 0 for x in vector) and all(times(row, vector) <= bound for row, bound in constraints)
 
 
 def corners(width, constraints):
@@ -51,10 +43,6 @@ def first_best(vectors, goal):
 
 def with_sum_1(width, rows):
     return [(row, 0) for row in rows] + [([1] * width, 1), ([-1] * width, -1)]
-
-
-def written(vector):
-    return [number for fraction in vector for number in (fraction.numerator, fraction.denominator)]
 
 
 def expected(width, constraints, goal):
@@ -86,28 +74,6 @@ def expected(width, constraints, goal):
 
 
 ASKED = [("status",), ("optimum",), ("multipliers",), ("refutation",), ("ray",), ("corners",)]
-
-
-class Numbers:
-    """A fixed row of numbers that looks mixed, the same on each run."""
-
-    def __init__(self, seed):
-        self.state = seed
-
-    def between(self, least, most):
-        self.state = (self.state * 6364136223846793005 + 1442695040888963407) % 2 ** 64
-        return least + (self.state >> 33) % (most - least + 1)
-
-
-def mixed_programs(count, seed, sizes, size, bounds):
-    """Programs with coefficients up to size and bounds from the pair."""
-    numbers = Numbers(seed)
-    made = []
-    for turn in range(count):
-        width, most = sizes[turn % len(sizes)]
-        rows = [([numbers.between(-size, size) for _ in range(width)], numbers.between(*bounds)) for _ in range(most)]
-        made.append((width, rows, [numbers.between(-size, size) for _ in range(width)]))
-    return made
 
 
 SMALL = [(n, m) for n in range(1, 6) for m in range(0, 7) if n + m <= 7]

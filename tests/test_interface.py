@@ -16,8 +16,8 @@ OTHERS = [
     ("set_cycle", 1, 2, [1]), ("set_cycle", HIGHEST, HIGHEST, []), ("status",), ("optimum",), ("multipliers",),
     ("refutation",), ("ray",), ("corners",), ("is_feasible", [1, 1], [1, 1]), ("is_feasible", [], []),
     ("is_feasible", [1], [0, 0, 0]), ("slack", 0, [1, 1], [1, 1]), ("slack", HIGHEST, [], [1]),
-    ("check_bound", [1], [1]), ("check_bound", [], [0]), ("check_refutation", [1], [1]),
-    ("check_ray", [1, 1], [1, 1]), ("check_optimum", [1, 1], [1, 1], [1], [1]),
+    ("check_bound", [], []), ("check_bound", [], [0]), ("check_refutation", [], []), ("check_refutation", [1], [1]),
+    ("check_ray", [1, 1], [1, 1]), ("check_ray", [1], []), ("check_optimum", [1, 1], [1, 1], [], []),
     ("check_optimum", [], [], [], [0]), ("asymptotic",), ("balanced",), ("exact",), ("saturation",),
     ("exact_curve", 2), ("exact_curve", HIGHEST), ("summary",),
 ]
@@ -36,6 +36,15 @@ class Answers(unittest.TestCase):
 
     def test_rows_with_nothing_in_them(self):
         self.assertEqual(answers([0, 1, 1, 0, 0, 3, 0, 11, 0, 0, 10]), [1, 0, 1, -22, 1, -22, 1, -22, 1, 1])
+        self.assertEqual(answers([0, 1, 4, 0, 1, 0, 12, 0, 0, 0, 13, 0, 0, 14, 0, 0, 15, 0, 0, 22]),
+                         [1, 0, 1, -22, 1, -2, 3, 0, 0, 1, 1, 0, 1, -22, 3, 1, 0, 0])
+        self.assertEqual(answers([0, 1, 16, 1, 0, 1, 1, 0, 0, 16, 0, 0, 0, 0, 10]), [1, 0, 1, 1, 1, -22, 1, 1])
+
+    def test_each_call_behind_an_instance_is_taken_apart(self):
+        # Behind each call stands one whose answer shows that it was read from the right place.
+        for call in OTHERS:
+            made = [("create", 2), ("add_constraint", 5, [1, 2]), ("set_cycle", 1, 2, [1])]
+            self.assertEqual(ask(*made, call, ("create", 5), ("summary",))[-2:], [[0], [5, 0, 0]], call)
 
     def test_fifty_calls(self):
         given = ask(("create", 1), *[("corners",)] * 49)
@@ -50,7 +59,10 @@ class Answers(unittest.TestCase):
     def test_the_list_handed_in_stays_as_it_was(self):
         calls = flat(program(2, [([1, 1], 4), ([1, 0], 2)], [3, 2]) + [
             ("set_cycle", 1, 2, [3, 4]), ("optimum",), ("multipliers",), ("refutation",), ("ray",),
-            ("corners",), ("is_feasible", [2, 4], [4, 6]), ("remove_constraint", 0), ("ray",), ("create", 9),
+            ("corners",), ("is_feasible", [2, 4], [4, 6]), ("slack", 0, [2, 4], [4, 6]),
+            ("check_bound", [4, 2], [2, 2]), ("check_refutation", [4, 2], [2, 2]), ("check_ray", [2, 4], [4, 6]),
+            ("check_optimum", [4, 4], [2, 2], [4, 2], [2, 2]), ("asymptotic",), ("balanced",), ("exact",),
+            ("saturation",), ("exact_curve", 12), ("summary",), ("remove_constraint", 0), ("ray",), ("create", 9),
         ])
         before = list(calls)
         answers(calls)
@@ -62,6 +74,15 @@ class Answers(unittest.TestCase):
         self.assertEqual(answers([5]), [1, -11])
         self.assertEqual(answers([6]), [1, -11])
         self.assertEqual(answers([0, 1, 6]), [1, 0, 5, 0, 0, 1, 0, 1])
+        self.assertEqual(answers(calls), first)
+
+    def test_no_cycle_is_kept_from_one_time_to_the_next(self):
+        calls = flat([("create", 1), ("set_cycle", 10, 3, [2, 3]), ("exact",), ("exact_curve", 2), ("summary",)])
+        first = answers(calls)
+        for number in range(17, 21):
+            self.assertEqual(answers([number]), [1, -11])
+            self.assertEqual(answers([0, 1, number]), [1, 0, 1, -6])
+        self.assertEqual(answers([0, 2, 21, 2, 22]), [1, 0, 1, -6, 3, 2, 0, 0])
         self.assertEqual(answers(calls), first)
 
     def test_what_is_given_back_belongs_to_the_caller(self):
@@ -114,6 +135,9 @@ class FarOutside(unittest.TestCase):
             (("remove_constraint", 2147483648), -2),
             (("set_cycle", HIGHEST, 2, [1]), -22),
             (("set_cycle", 1, HIGHEST, [1]), -22),
+            (("slack", HIGHEST, [1, 1], [1, 1]), -2),
+            (("slack", 2147483648, [1, 1], [1, 1]), -2),
+            (("exact_curve", HIGHEST), -6),
         ]:
             self.assertEqual(ask_of(made, call), [[expected]], call)
 
@@ -125,6 +149,20 @@ class FarOutside(unittest.TestCase):
                     self.assertEqual(ask_of(made, call), [[-22]], call)
         for row in ([HIGHEST], [1, HIGHEST], [HIGHEST] * 8, [HIGHEST] * 10):
             self.assertEqual(ask_of(made, ("set_cycle", 1, 2, row)), [[-22]], row)
+
+    def test_lists_of_ten(self):
+        made = program(2, [([1, 1], 4)] * 6)
+        for far in (LOWEST_SIGNED, HIGHEST_SIGNED):
+            row = [far] * 10
+            for call in [("is_feasible", row, row), ("slack", 5, row, row), ("check_bound", row, row),
+                         ("check_refutation", row, row), ("check_ray", row, row),
+                         ("check_optimum", row, row, row, row)]:
+                self.assertEqual(ask_of(made, call), [[-22]], call)
+
+    def test_a_curve(self):
+        made = [("create", 1), ("set_cycle", 1, 2, [1])]
+        for most in (13, 2147483647, 2147483648, HIGHEST):
+            self.assertEqual(ask_of(made, ("exact_curve", most)), [[-22]], most)
 
 
 if __name__ == "__main__":
